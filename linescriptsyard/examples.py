@@ -1,13 +1,18 @@
 """The calls on one object that holds examples, and what they answer."""
 
-from linescriptsyard.family import addresses_of, commands_of, deeds_of
+from linescriptsyard.distance import how_far, lines_in_common
+from linescriptsyard.family import addresses_of, commands_of, deeds_of, single_scripts_of
+from linescriptsyard.faults import Fault
+from linescriptsyard.fitting import all_fitting, far_from, far_from_all, fits, nearest_of
 from linescriptsyard.least import NothingFound, found_script, useful_commands
+from linescriptsyard.parsing import read_script
 from linescriptsyard.reading import CallReader
 from linescriptsyard.scripts import told_script
 from linescriptsyard.texts import NotAText, read_text, told_text
 
 EXAMPLES_AT_MOST = 4
 EXAMPLE_LINES_AT_MOST = 6
+FITTING_TOLD_AT_MOST = 10
 
 NO_SUCH_EXAMPLE = -2
 NOT_A_TEXT = -4
@@ -77,8 +82,49 @@ def answer_find(held, reader):
     return [len(script)] + told_script(script)
 
 
+def answer_all(held, reader):
+    """Tell how many scripts of one command fit all examples, and the first of them."""
+    fitting = all_fitting(single_scripts_of(held), held)
+    answer = [len(fitting)]
+    for script in fitting[:FITTING_TOLD_AT_MOST]:
+        answer.extend(told_script(script))
+    return answer
+
+
+def answer_check(held, reader):
+    """Tell how far a script is from the examples, or what is not right with it."""
+    told = reader.read_row()
+    try:
+        script = read_script(told)
+    except Fault as fault:
+        return [0, fault.code, fault.place]
+    fitted = [example for example in held if fits(script, example)]
+    return [1, len(fitted)] + [far_from(script, example) for example in held]
+
+
+def answer_nearest(held, reader):
+    """Tell the script of one command that is nearest to all examples together."""
+    script = nearest_of(single_scripts_of(held), held)
+    return [far_from_all(script, held)] + told_script(script)
+
+
+def answer_far(held, reader):
+    """Tell how far two texts are from each other."""
+    told_one = reader.read_row()
+    told_other = reader.read_row()
+    try:
+        one = read_text(told_one)
+        other = read_text(told_other)
+    except NotAText:
+        return [NOT_A_TEXT]
+    return [how_far(one, other), lines_in_common(one, other)]
+
+
 # By the number of the call.
-CALLS = (answer_example, answer_drop, answer_shown, answer_family, answer_find)
+CALLS = (
+    answer_example, answer_drop, answer_shown, answer_family, answer_find,
+    answer_all, answer_check, answer_nearest, answer_far,
+)
 
 
 def answers(calls):

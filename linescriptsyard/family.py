@@ -66,3 +66,8 @@ def commands_of(examples):
     for deed in deeds_of(examples):
         commands.extend([Command(address, deed) for address in addresses])
     return commands
+
+
+def single_scripts_of(examples):
+    """The scripts of one command of the family, in order."""
+    return [[command] for command in commands_of(examples)]

@@ -1,9 +1,10 @@
 """Commands of scripts, and the one form in which a script is told.
 
-An address is a tuple: ("all",), ("last",), ("line", 2), ("is", "ab"),
-("has", "a") or ("not", an address). A deed is a tuple, too: ("delete",),
-("change", "ab"), ("before", "ab"), ("after", "ab") or ("swap", "a", "b"),
-where no letters ("") are told as none. A script is a list of commands.
+An address is a tuple of its words and numbers, in the order in which they
+are told: ("all",), ("line", 2), ("from", 2, "to", 5), ("last",), ("has", "a"),
+("is", "ab") or ("not", an address). A deed is such a tuple, too: ("delete",),
+("change", "ab"), ("swap", "a", "b"), ("skip", 2) and the like, where no
+letters ("") are told as none. A script is a list of commands.
 """
 
 from linescriptsyard.texts import bytes_of
@@ -31,7 +32,7 @@ def told_address(address):
 
 def told_deed(deed):
     """A deed as words."""
-    return " ".join([word or "none" for word in deed])
+    return " ".join([str(word) or "none" for word in deed])
 
 
 def told_command(command):

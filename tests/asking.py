@@ -5,6 +5,8 @@ from linescriptsyard.examples import answers
 SHOWN = [2]
 FAMILY = [3]
 FIND = [4]
+ALL = [5]
+NEAREST = [7]
 
 
 def text(*lines):
@@ -25,6 +27,22 @@ def example(before, after):
 def drop(place):
     """The call drop."""
     return [1, place]
+
+
+def check(script):
+    """The call check of a script that is handed in as a text or as bytes."""
+    told = script.encode("ascii") if isinstance(script, str) else bytes(script)
+    return [6, len(told), *told]
+
+
+def raw_far(one, other):
+    """The call far with these bytes."""
+    return [8, len(one), *one, len(other), *other]
+
+
+def far(one, other):
+    """The call far with texts of these lines."""
+    return raw_far(text(*one), text(*other))
 
 
 def apart(told):
@@ -59,3 +77,18 @@ def found(pairs):
     script = bytes(answer[2:]).decode("ascii")
     assert answer[0] == script.count("\n")
     return script
+
+
+def checked(script, pairs=()):
+    """What check answers of a script where these examples are held."""
+    return ask_of(pairs, check(script))[0]
+
+
+def scripts_in(told):
+    """The scripts, each behind how many bytes it has, that these numbers tell, as texts."""
+    scripts = []
+    while told:
+        assert told[0] <= len(told) - 1
+        scripts.append(bytes(told[1:1 + told[0]]).decode("ascii"))
+        told = told[1 + told[0]:]
+    return scripts

@@ -39,3 +39,68 @@ def made_pairs(seed, count):
         if all(len(after) <= 6 for before, after in pairs):
             made.append(pairs)
     return made
+
+
+LETTERS = ["a", "b", "ab", "aa", "c", "abcdefgh", "bbbbbbbb", "x"]
+
+
+def made_address(rng, letters=LETTERS):
+    """The words of an address."""
+    nots = ["not"] * rng.choice([0, 0, 0, 0, 1, 1, 2, 3])
+    low, high = sorted((rng.randint(1, 6), rng.randint(1, 7)))
+    plain = rng.choice([
+        ["all"], ["last"], ["line", str(low)], ["from", str(low), "to", str(high)],
+        ["has", rng.choice(letters)], ["has", rng.choice(letters)], ["is", rng.choice(letters)],
+    ])
+    return nots + plain
+
+
+def made_deed(rng, letters=LETTERS):
+    """The words of a deed."""
+    verb = rng.choice(oracle.VERBS + ["swap", "first", "change", "before", "after", "keep", "bring", "trade"])
+    if verb in ("before", "after", "change"):
+        return [verb, rng.choice(letters)]
+    if verb in ("swap", "first"):
+        return [verb, rng.choice(letters), rng.choice(letters + ["none", "none"])]
+    return [verb, str(rng.randint(1, 4))] if verb == "skip" else [verb]
+
+
+def made_script(rng, most=8, letters=LETTERS):
+    """The tokens of a script that is right."""
+    words = []
+    for _ in range(rng.randint(0, most)):
+        if rng.random() < 0.7:
+            words += ["if", *made_address(rng, letters)]
+        words += [*made_deed(rng, letters), ";"]
+    return words
+
+
+def written(rng, words):
+    """Tokens as bytes, with blanks and remarks between them and at both ends."""
+    gaps = [" ", "  ", "\n", "\t", "# if all ! ;\n", "#\n", " # \t#\n\n "]
+    told = rng.choice(["", *gaps])
+    for word in words:
+        told += word + rng.choice(["", *gaps] if word == ";" else gaps)
+    return (told + rng.choice(["", "", "#", "# end"])).encode()
+
+
+def spoiled(rng, words):
+    """Tokens of which one is left out, doubled, put in or another one now, or that break off."""
+    others = oracle.OWN + [";", ";", "a", "abcdefgh", "abcdefghi", "0", "1", "2", "9", "10", "99", "100", "01",
+                           "1000000000", "1000000001", "A", "!", "-1"]
+    place = rng.randint(0, len(words))
+    kind = rng.randint(0, 6)
+    if kind == 0:
+        return words[:place] + words[place + 1:]
+    if kind == 1:
+        return words[:place] + [rng.choice(others)] + words[place + 1:]
+    if kind == 2:
+        return words[:place] + [rng.choice(others)] + words[place:]
+    if kind == 3:
+        return words[:place] + words[place:place + 1] + words[place:]
+    if kind == 4:
+        return words[:place]
+    if kind == 5:
+        return [rng.choice(["0", "1", "3", "9", "10", "99", "100"]) if word.isdigit() else word for word in words]
+    nots = ["not"] * rng.randint(1, 4)
+    return [part for word in words for part in ([word, *nots] if word == "if" else [word])]

@@ -1,8 +1,11 @@
 """How calls are read and answered, and the calls example, drop and shown."""
 
+import time
 import unittest
+from itertools import permutations
 
-from asking import FAMILY, FIND, SHOWN, apart, ask, drop, example, raw_example, text
+from asking import ALL, FAMILY, FIND, NEAREST, SHOWN
+from asking import apart, ask, ask_of, check, drop, example, far, raw_example, raw_far, text
 from linescriptsyard.examples import answers
 
 TEN_18 = 10 ** 18
@@ -23,9 +26,16 @@ class Lists(unittest.TestCase):
     """How calls are handed in and answers given back."""
 
     def test_worked_example(self):
-        calls = [0, 8, 97, 98, 10, 99, 10, 97, 98, 10, 6, 97, 98, 10, 97, 98, 10, 3, 4]
-        find = [1, 17, 105, 102, 32, 105, 115, 32, 99, 32, 100, 101, 108, 101, 116, 101, 32, 59, 10]
-        self.assertEqual(answers(calls), [1, 1, 4, 19, 11, 209, 6, 19] + find)
+        before = [97, 98, 10, 99, 10, 97, 98, 10]
+        after = [97, 98, 10, 97, 98, 10]
+        line_2 = [105, 102, 32, 108, 105, 110, 101, 32, 50, 32, 100, 101, 108, 101, 116, 101, 32, 59]
+        alone = [100, 101, 108, 101, 116, 101, 32, 59]
+        calls = [0, 8, *before, 6, *after, 3, 4, 8, 8, *before, 6, *after, 6, 18, *line_2, 6, 8, *alone, 7]
+        told = [1, 1, 4, 19, 11, 209, 6]
+        told += [19, 1, 17, 105, 102, 32, 105, 115, 32, 99, 32, 100, 101, 108, 101, 116, 101, 32, 59, 10]
+        told += [2, 1, 2, 3, 1, 1, 0, 3, 1, 0, 2]
+        told += [21, 0, 19, 105, 102, 32, 108, 105, 110, 101, 32, 50, 32, 100, 101, 108, 101, 116, 101, 32, 59, 10]
+        self.assertEqual(answers(calls), told)
 
     def test_each_call_alone(self):
         self.assertEqual(answers([0, 0, 0]), [1, 1])
@@ -35,6 +45,13 @@ class Lists(unittest.TestCase):
         self.assertEqual(answers([2]), [1, 0])
         self.assertEqual(answers([3]), [4, 3, 1, 3, 0])
         self.assertEqual(answers([4]), [2, 0, 0])
+        self.assertEqual(answers([5])[:4], [51, 3, 9, 100])
+        self.assertEqual(answers([6, 0]), [2, 1, 0])
+        self.assertEqual(answers([6, 1, 59]), [3, 0, 3, 0])
+        self.assertEqual(answers([7]), [11, 0, 9, 100, 101, 108, 101, 116, 101, 32, 59, 10])
+        self.assertEqual(answers([8, 0, 0]), [2, 0, 0])
+        self.assertEqual(answers([8, 2, 97, 10, 0]), [2, 1, 0])
+        self.assertEqual(answers([8, 0, 1, 97]), [1, -4])
 
     def test_several_calls(self):
         calls = [2, 0, 1, 10, 0, 0, 0, 3, 97, 98, 10, 2, 1, 0, 2]
@@ -61,6 +78,8 @@ class Lists(unittest.TestCase):
             [0, 8, 97, 98, 10, 99, 10, 97, 98, 10, 6, 97, 98, 10, 97, 98, 10, 2, 3, 4, 1, 0, 1, 0],
             [0, 1, 97, 0, 2, 0, 0, 0, 2, 4, 3],
             [number for call in FOUR + FOUR + [FIND, SHOWN] for number in call],
+            [number for call in FOUR + [ALL, NEAREST, FIND, check("if a"), far(["a"], ["b"])] for number in call],
+            [6, 8, 107, 101, 101, 112, 32, 59, 35, 10, 8, 2, 97, 10, 1, 97, 5, 7],
         ]
         for calls in many:
             kept = list(calls)
@@ -72,11 +91,20 @@ class Lists(unittest.TestCase):
             self.assertEqual(calls, kept)
 
     def test_answers_are_whole_numbers_in_a_list(self):
-        calls = [0, 2, 97, 10, 2, 98, 10, 2, 3, 4, 1, 5, 1, 0, 0, 1, 97, 0]
-        told = answers(calls)
-        self.assertIs(type(told), list)
-        self.assertEqual({type(number) for number in told}, {int})
-        self.assertEqual([answer[0] for answer in apart(told)], [1, 1, 9, 1, -2, 0, -4])
+        first = [0, 2, 97, 10, 2, 98, 10]
+        calls = first + [2, 3, 4, 1, 5, 1, 0, 0, 1, 97, 0]
+        more = first + [5, 7, 6, 0, 6, 1, 59, 6, 5000, *[32] * 5000, 8, 2, 97, 10, 2, 98, 10, 8, 1, 97, 0]
+        for asked, firsts in [(calls, [1, 1, 9, 1, -2, 0, -4]), (more, [1, 10, 0, 1, 0, 0, 2, -4])]:
+            told = answers(asked)
+            self.assertIs(type(told), list)
+            self.assertEqual({type(number) for number in told}, {int})
+            self.assertEqual([answer[0] for answer in apart(told)], firsts)
+
+    def test_no_other_answer_has_a_number_below_0(self):
+        asked = [SHOWN, FAMILY, FIND, ALL, NEAREST, check("keep ;"), check(";"), far(["a"], ["b"])]
+        for pairs in ([], [(["a"], ["b"])], [(["a", "b"], ["b", "a"]), ([], [])]):
+            for answer in ask_of(pairs, *asked):
+                self.assertGreaterEqual(min(answer), 0)
 
 
 class ExampleCall(unittest.TestCase):
@@ -204,6 +232,92 @@ class ShownCall(unittest.TestCase):
     def test_asking_changes_nothing(self):
         told = ask(example(["ab", "c"], ["ab"]), SHOWN, FAMILY, FIND, SHOWN, FAMILY, FIND)
         self.assertEqual(told[1:4], told[4:])
+
+
+class NothingChanged(unittest.TestCase):
+    """Refused calls, and calls that only ask, leave the object as it was."""
+
+    PAIRS = [(["a", "b"], ["b"]), (["c"], [])]
+    ASKING = [
+        SHOWN, FAMILY, FIND, ALL, NEAREST, check("delete ;"), check("keep"), check("!"), check(" " * 4097),
+        check("trade ; keep ; bring ;"), check("swap a abcdefgh ; swap a abcdefgh ;"), far(["a"], ["b"]),
+    ]
+    REFUSED = [
+        raw_example([97], []), raw_example([], [97]), raw_example(text(*["a"] * 7), []), drop(-1), drop(2),
+        drop(TEN_18), raw_far([97], []), raw_far([], [0]), raw_far(text(*["a"] * 25), text("a" * 17)),
+    ]
+
+    def test_one_call_ahead_of_another(self):
+        alone = [ask_of(self.PAIRS, call)[0] for call in self.ASKING]
+        for call in self.ASKING + self.REFUSED:
+            for asked, wanted in zip(self.ASKING, alone):
+                told = ask_of(self.PAIRS, call, asked, SHOWN)
+                self.assertEqual(told[1:], [wanted, shown_of(*self.PAIRS)], (call, asked))
+
+    def test_a_refusal_where_four_are_held(self):
+        held = [([word], []) for word in "abcd"]
+        wanted = ask_of(held, SHOWN, FAMILY, FIND, ALL, NEAREST)
+        for call in (FOUR[0], raw_example([97], []), drop(4), raw_far([97], [])):
+            self.assertEqual(ask_of(held, call, SHOWN, FAMILY, FIND, ALL, NEAREST)[1:], wanted)
+
+    def test_any_order(self):
+        asked = {"find": FIND, "all": ALL, "check": check("delete ;"), "nearest": NEAREST, "far": far(["a"], ["b"])}
+        pair = (["ab", "c"], ["c"])
+        alone = {name: ask_of([pair], call)[0] for name, call in asked.items()}
+        for order in permutations(asked):
+            told = ask_of([pair], *[asked[name] for name in order])
+            self.assertEqual(told, [alone[name] for name in order])
+
+    def test_ten_calls_between_which_examples_come_and_go(self):
+        told = ask(NEAREST, example(["a"], ["b"]), NEAREST, example(["a"], []), check("delete ;"), ALL, drop(0),
+                   check("delete ;"), ALL, NEAREST)
+        delete = [9] + list(b"delete ;\n")
+        fitting = [5, *delete]
+        for address in ("last", "line 1", "is a", "has a"):
+            script = f"if {address} delete ;\n".encode()
+            fitting += [len(script), *script]
+        change = [11] + list(b"change b ;\n")
+        self.assertEqual(told, [[0, *delete], [1], [0, *change], [2], [1, 1, 1, 0], [0], [1], [1, 1, 0], fitting,
+                                [0, *delete]])
+
+
+class TheGreatest(unittest.TestCase):
+    """The greatest that may be handed in is answered in a few seconds."""
+
+    FULL = [
+        (["a", "b", "c", "d", "e", "f"], ["g", "h", "i", "j", "k", "l"]),
+        (["ab", "bc", "cd", "de", "ef", "fa"], ["gh", "hi", "ij", "jk", "kl", "lg"]),
+        (["abcdefabcdefabcd"] * 6, ["ghijklghijklghij"] * 6),
+        (["a", "a", "b", "b", "a", "b"], ["g", "h", "g", "g", "g", "g"]),
+    ]
+
+    def look(self, *calls):
+        """Ask these calls behind four full examples, and look how long it takes."""
+        start = time.process_time()
+        told = ask_of(self.FULL, *calls)
+        self.assertLess(time.process_time() - start, 8)
+        return told
+
+    def test_a_family_of_4029_commands(self):
+        self.assertEqual(self.look(FAMILY)[0], [51, 79, 4029, 40])
+        for call in (FAMILY, FIND, ALL, NEAREST):
+            told = self.look(*[call] * 6)
+            self.assertEqual(told, told[:1] * 6)
+        self.look(FAMILY, FIND, ALL, NEAREST, FIND, NEAREST)
+
+    def test_the_longest_scripts(self):
+        script = "if not not from 1 to 99 swap abcdefgh abcdefgh ;\n" * 16
+        script += " " * (4096 - len(script))
+        told = self.look(check(script), check(script), check(script))
+        self.assertEqual(told, told[:1] * 3)
+        self.assertEqual(told[0][:2], [1, 0])
+        for byte in (32, 35, 48, 59, 97, 255):
+            self.assertEqual(len(self.look(check([byte] * 4096), check([byte] * 8192))), 2)
+
+    def test_the_longest_texts(self):
+        full = [str(letter) * 16 for letter in "abcdefghijklmnopqrstuvwx"]
+        self.assertEqual(self.look(*[far(full, full[::-1])] * 6), [[46, 1]] * 6)
+        self.assertEqual(self.look(raw_far([10] * 8192, [97] * 8192)), [[-4]])
 
 
 if __name__ == "__main__":

@@ -36,6 +36,8 @@ def names_bound(node):
         return [node.id]
     if isinstance(node, ast.alias):
         return [node.asname or node.name]
+    if isinstance(node, ast.ExceptHandler) and node.name:
+        return [node.name]
     return []
 
 
@@ -139,6 +141,44 @@ class Language(unittest.TestCase):
             for node in ast.walk(tree):
                 if isinstance(node, ast.Attribute):
                     self.assertIn(node.attr, METHODS | methods | values, f"{path.name}:{node.lineno}")
+
+    def test_forms(self):
+        keywords = {"key", "reverse", "default", "start", "strict"}
+        errors = {"KeyError", "ZeroDivisionError", "StopIteration"}
+        for path, source, tree in self.each():
+            errors |= {node.name for node in tree.body if isinstance(node, ast.ClassDef)}
+        for path, source, tree in self.each():
+            for node in ast.walk(tree):
+                where = f"{path.name}:{getattr(node, 'lineno', 0)}"
+                if isinstance(node, ast.Compare):
+                    for part, value in zip(node.ops, node.comparators):
+                        if isinstance(part, (ast.Is, ast.IsNot)):
+                            self.assertIsInstance(value, ast.Constant, where)
+                if isinstance(node, ast.Call):
+                    self.assertLessEqual({part.arg for part in node.keywords}, keywords, where)
+                if isinstance(node, ast.Raise):
+                    self.assertIsInstance(node.exc, ast.Call, where)
+                if isinstance(node, ast.ExceptHandler):
+                    self.assertIsInstance(node.type, ast.Name, where)
+                    self.assertIn(node.type.id, errors, where)
+                if isinstance(node, ast.FormattedValue):
+                    self.assertIsInstance(node.value, ast.Name, where)
+                if isinstance(node, ast.Assign):
+                    self.assertIsInstance(node.targets[0], (ast.Name, ast.Attribute, ast.Subscript), where)
+
+    def test_nothing_at_a_file_s_top_is_handed_on(self):
+        readers = {"len", "list", "dict", "tuple"}
+        for path, source, tree in self.each():
+            kept = {node.targets[0].id for node in tree.body if isinstance(node, ast.Assign)
+                    and isinstance(node.value, (ast.Tuple, ast.List, ast.Dict))}
+            for node in ast.walk(tree):
+                values = []
+                if isinstance(node, (ast.Return, ast.Assign)):
+                    values = [node.value]
+                if isinstance(node, ast.Call) and getattr(node.func, "id", None) not in readers:
+                    values = node.args
+                names = {value.id for value in values if isinstance(value, ast.Name)}
+                self.assertEqual(names & kept, set(), f"{path.name}:{getattr(node, 'lineno', 0)}")
 
     def test_the_interface(self):
         tree = ast.parse((PACKAGE / "examples.py").read_text())
